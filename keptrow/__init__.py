@@ -1,0 +1,1 @@
+"""Keptrow: dealings on a shelf of versions."""
