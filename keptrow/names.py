@@ -5,6 +5,12 @@ LONGEST = 12
 LARGEST = 10 ** 30
 
 
+def is_whole(thing):
+    """Tell whether the thing is a whole number."""
+    # Python counts True and False among the integers, the document does not.
+    return isinstance(thing, int) and not isinstance(thing, bool)
+
+
 def is_name(thing):
     """Tell whether the thing is a name: a head that is not empty."""
     return is_head(thing) and thing != ""
@@ -21,12 +27,14 @@ def is_value(thing):
     """Tell whether the thing is a value: None, or a whole number within the bounds."""
     if thing is None:
         return True
-    # Python counts True and False among the integers, the document does not.
-    if isinstance(thing, bool) or not isinstance(thing, int):
-        return False
-    return -LARGEST <= thing <= LARGEST
+    return is_whole(thing) and -LARGEST <= thing <= LARGEST
 
 
 def is_under(name, head):
     """Tell whether the name lies under the head: whether it begins with it."""
     return name.startswith(head)
+
+
+def heads_of(name):
+    """Tell all heads under which the name lies."""
+    return [name[:length] for length in range(len(name) + 1)]
